@@ -1,0 +1,1 @@
+"""Unlikecalls: calls between programs that pass arguments in different ways."""

@@ -1,0 +1,41 @@
+"""What the other files ask of values of any kind [2]."""
+
+LONGEST_NAME = 8
+NAME_LETTERS = "abcdefghijklmnopqrstuvwxyz"
+
+
+def is_integer(value):
+    """Whether value is an INTEGER; True and False are none."""
+    return isinstance(value, int) and not isinstance(value, bool)
+
+
+def is_count(value):
+    """Whether value is a COUNT, an INTEGER that is at least 0."""
+    return is_integer(value) and value >= 0
+
+
+def is_byte(value):
+    """Whether value is a BYTE, a COUNT below 256."""
+    return is_count(value) and value < 256
+
+
+def is_name(value):
+    """Whether value is a NAME, one to eight letters from a to z."""
+    if not isinstance(value, str) or not 1 <= len(value) <= LONGEST_NAME:
+        return False
+    return all([letter in NAME_LETTERS for letter in value])
+
+
+def is_between(value, least, most):
+    """Whether value is an INTEGER from least to most."""
+    return is_integer(value) and least <= value <= most
+
+
+def is_one_of(value, numbers):
+    """Whether value is an INTEGER and one of these numbers."""
+    return is_integer(value) and value in numbers
+
+
+def is_word_of(value, words):
+    """Whether value is a string and one of these words."""
+    return isinstance(value, str) and value in words

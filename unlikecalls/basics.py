@@ -39,3 +39,13 @@ def is_one_of(value, numbers):
 def is_word_of(value, words):
     """Whether value is a string and one of these words."""
     return isinstance(value, str) and value in words
+
+
+def is_list(value):
+    """Whether value is passed where a list is wanted; a tuple does as well."""
+    return isinstance(value, (list, tuple))
+
+
+def is_bit(value):
+    """Whether value is a bit of a row: 0, 1, or None for an unknown one."""
+    return value is None or is_between(value, 0, 1)

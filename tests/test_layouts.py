@@ -1,12 +1,13 @@
-"""Layouts [31], [32], [33]: as long as there is no convention, they are made from its options and fills."""
+"""Layouts [31], [32], [33], by convention >> signature, and step for step."""
 
 from itertools import product
 
 from tests.helpers import NO_COUNTS, RaisingTest
+from unlikecalls.conventions import Convention
 from unlikecalls.errors import InvalidNumber
 from unlikecalls.fills import Fill
 from unlikecalls.kinds import Book, Kind
-from unlikecalls.layouts import FIRST_STATE, Layout, place_letter
+from unlikecalls.layouts import Layout
 from unlikecalls.places import Register, Slots
 from unlikecalls.signatures import Signature, signatures
 
@@ -18,10 +19,9 @@ BOOK = Book(Kind("a", size=1), Kind("d", size=16), Kind("f", "float", size=4), K
 
 
 def lay(letters, *, book=BOOK, fills=None, **options):
-    """The Layout of a signature, with a dot for the mark. The options stand for the convention."""
-    told = {**DEFAULTS, **options}
+    """The Layout of a signature, with a dot for the mark."""
     signature = Signature(book, *["..." if letter == "." else letter for letter in letters])
-    return Layout(repr(told), signature, told, fills or {})
+    return Convention(book, fills=fills, **options) >> signature
 
 
 def whole(number):
@@ -122,13 +122,18 @@ class LayoutTest(RaisingTest):
             options = {"wholes": 3, "floats": 2, "together": together, "doubles": doubles, "again": again, "slot": 4}
             for signature in signatures(book, 4):
                 told = {**DEFAULTS, **options}
-                self.check_walk(Layout("plan", signature, told, {}), told)
+                self.check_walk(Convention(book, **options) >> signature, told)
 
     def check_walk(self, layout, options):
         walker = Walker(options, layout.signature.book)
+        plan = layout.convention
         pieces, states, offsets = [], [walker.state()], [walker.offset]
+        self.assertEqual(plan.start(), states[0])
         for letter in layout.signature.letters():
             placed = walker.walk(letter)
+            stepped = [piece - offsets[-1] if isinstance(piece, Slots) else piece for piece in placed]
+            wanted = (stepped, walker.state(), walker.offset - offsets[-1])
+            self.assertEqual(plan.step(states[-1], letter), wanted, (options, layout.signature))
             if letter != "...":
                 pieces.append(placed)
             states.append(walker.state())
@@ -148,8 +153,8 @@ class LayoutTest(RaisingTest):
 
     def test_step_examples(self):
         wide = Book(Kind("a", size=1), Kind("d", size=16))
-        told = {**DEFAULTS, "wholes": 2, "together": True, "tail": "slots", "home": 16}
-        found = [place_letter(told, wide, (1, 1, 0, 0, 0, 0), "d"), place_letter(told, wide, FIRST_STATE, "...")]
+        plan = Convention(wide, wholes=2, together=True, tail="slots", home=16)
+        found = [plan.step((1, 1, 0, 0, 0, 0), "d"), plan.step(plan.start(), "...")]
         self.assertEqual(repr(found), "[([Slots(0, 16)], (2, 2, 1, 1, 0, 0), 16), ([], (0, 0, 0, 0, 1, 0), 0)]")
 
     def test_registers_of_both_groups(self):
@@ -198,7 +203,7 @@ class LayoutTest(RaisingTest):
         for letters, natural, offset in (("ad", True, 8), ("ae", True, 4), ("ad", False, 4)):
             options = {"slot": 4, "natural": natural, "wholes": 1, "doubles": "split", "again": True}
             state = (0, 0, 0, 0, 0, 4)
-            found = place_letter({**DEFAULTS, **options}, book, state, letters[1])
+            found = Convention(book, **options).step(state, letters[1])
             self.assertEqual(found[0], [whole(0), Slots(offset - 4, 8)], letters)
             self.assertEqual(found[2], offset + 4)
 
@@ -216,7 +221,7 @@ class LayoutTest(RaisingTest):
             layout = lay("ad", home=home)
             self.assertEqual(layout.offsets(), [home, home + 8, home + 32])
             self.assertEqual(layout.pieces(1), [Slots(home + 16, 16)])
-            self.assertEqual((layout.states()[0], lay("", home=home).end), (FIRST_STATE, home))
+            self.assertEqual((layout.states()[0], lay("", home=home).end), ((0, 0, 0, 0, 0, 0), home))
 
     def test_tail(self):
         same = lay("a.af", wholes=2, floats=1)
@@ -254,12 +259,14 @@ class LayoutTest(RaisingTest):
 
     def test_properties(self):
         layout = lay("ad", wholes=1)
-        self.assertEqual(layout.convention, repr({**DEFAULTS, "wholes": 1}))
+        self.assertEqual(layout.convention, Convention(BOOK, wholes=1))
+        self.assertIsInstance(layout, Layout)
         self.assertEqual(layout.signature, Signature(BOOK, "a", "d"))
         self.check_read_only(layout, ("convention", "signature", "end"))
 
     def test_equality(self):
-        layouts = [lay("a"), lay("d"), lay(""), lay("a", wholes=1), lay("a", book=Book(Kind("a", size=1)))]
+        layouts = [lay("a"), lay("d"), lay(""), lay("a", wholes=1), lay("a", book=Book(Kind("a", size=1))),
+                   lay("a", fills={"w": Fill("sign", 9)})]
         self.check_equal_alone(layouts, (Signature(BOOK, "a"),))
         self.assertEqual(lay("ad.f", wholes=2), lay("ad.f", wholes=2))
 

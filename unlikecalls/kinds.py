@@ -1,7 +1,7 @@
 """Kinds of arguments, and books of kinds [21]."""
 
 from unlikecalls.basics import is_between, is_count, is_name, is_one_of, is_word_of
-from unlikecalls.errors import InvalidBook, InvalidKind, InvalidName, TooMany, UnknownKind
+from unlikecalls.errors import InvalidBook, InvalidKind, InvalidName, OtherBook, TooMany, UnknownKind
 from unlikecalls.places import ALIGNMENTS, GROUPS
 
 SIZES = (1, 2, 4, 8, 16)
@@ -132,3 +132,10 @@ class Book:
 
     def __eq__(self, other):
         return isinstance(other, Book) and self._parts == other._parts
+
+
+def check_one_book(things):
+    """Refuses things, each with a book, if these are not all of one book."""
+    for thing in things:
+        if thing.book != things[0].book:
+            raise OtherBook(things[0].book, thing.book)

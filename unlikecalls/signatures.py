@@ -179,3 +179,9 @@ def next_ranks(ranks, many, mark):
         if ranks[position] < last:
             return ranks[:position] + [ranks[position] + 1] + [0] * (len(ranks) - position - 1)
     return None
+
+
+def check_signature(value):
+    """Refuses what is no signature."""
+    if not isinstance(value, Signature):
+        raise InvalidSignature(value)

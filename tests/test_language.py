@@ -112,6 +112,45 @@ class LanguageTest(unittest.TestCase):
                     self.assertNotIn(node.arg, known, (name, node.lineno))
 
 
+    def test_no_name_of_the_file_is_used_otherwise(self):
+        for name, tree in trees():
+            classes = [node.name for node in tree.body if isinstance(node, ast.ClassDef)]
+            imports = [alias.name for node in tree.body if isinstance(node, ast.ImportFrom) for alias in node.names]
+            for node in ast.walk(tree):
+                if isinstance(node, ast.arg):
+                    self.assertNotIn(node.arg, classes + imports, (name, node.lineno))
+                if isinstance(node, ast.Name) and isinstance(node.ctx, ast.Store):
+                    self.assertNotIn(node.id, classes + imports, (name, node.lineno))
+
+    def test_stars_in_calls(self):
+        properties = [method.name for _, tree in trees() for node in ast.walk(tree) if isinstance(node, ast.ClassDef)
+                      for method in node.body if isinstance(method, ast.FunctionDef) and method.decorator_list]
+        for name, tree in trees():
+            for node in ast.walk(tree):
+                if not isinstance(node, ast.Call):
+                    continue
+                stars = [part for part in node.args if isinstance(part, ast.Starred)]
+                doubles = [part for part in node.keywords if part.arg is None]
+                for part in (*node.args, *[each.value for each in doubles]) if stars or doubles else ():
+                    part = part.value if isinstance(part, ast.Starred) else part
+                    self.assertIsInstance(part, (ast.Name, ast.Attribute, ast.Constant), (name, node.lineno))
+                    if isinstance(part, ast.Attribute):
+                        self.assertNotIn(part.attr, properties, (name, node.lineno))
+                        self.assertIsInstance(part.value, ast.Name, (name, node.lineno))
+
+    def test_properties_are_not_called_nor_stored(self):
+        properties = [method.name for _, tree in trees() for node in ast.walk(tree) if isinstance(node, ast.ClassDef)
+                      for method in node.body if isinstance(method, ast.FunctionDef)
+                      and [each.id for each in method.decorator_list if isinstance(each, ast.Name)] == ["property"]]
+        self.assertGreater(len(properties), 20)
+        for name, tree in trees():
+            for node in ast.walk(tree):
+                if isinstance(node, ast.Call) and isinstance(node.func, ast.Attribute):
+                    self.assertNotIn(node.func.attr, properties, (name, node.lineno))
+                if isinstance(node, ast.Attribute) and isinstance(node.ctx, ast.Store):
+                    self.assertNotIn(node.attr, properties, (name, node.lineno))
+
+
 def bound_at_top(tree):
     """The names that a file binds, those of imports included."""
     names = []

@@ -12,7 +12,7 @@ from unlikecalls.errors import (
 )
 from unlikecalls.fills import Fill
 from unlikecalls.kinds import Book
-from unlikecalls.layouts import FIRST_STATE, Layout, fill_of, place_letter
+from unlikecalls.layouts import FIRST_STATE, Layout, fill_of, next_slots, place_letter
 from unlikecalls.signatures import Signature
 
 # In the sequence in which they are checked; the fills come behind all of them.
@@ -121,6 +121,10 @@ class Convention:
         if letter not in self._book and not is_word_of(letter, (Signature.MARK,)):
             raise UnknownKind(letter)
         return place_letter(self._options, self._book, state, letter)
+
+    def next_of(self, name, got):
+        """The Next that finds the slots of an argument of a kind that got so many registers, less than it needs."""
+        return next_slots(self._options, self._book.kind(name), got)
 
     def __rshift__(self, other):
         if not isinstance(other, Signature):

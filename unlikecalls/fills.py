@@ -106,17 +106,7 @@ class Work:
 
     def plain(self):
         """The shortest work that is like this one."""
-        kept = []
-        for fill in self._fills[::-1]:
-            if kept and fill.extent <= kept[-1].extent:
-                # A later fill sets all bits that this one sets.
-                continue
-            if kept and fill.word == kept[-1].word:
-                # Below the later fill's extent this one sets the same; above it, it alone does.
-                kept[-1] = fill
-            else:
-                kept.append(fill)
-        fills = kept[::-1]
+        fills = plain_fills(self._fills)
         return Work(*fills)
 
     def is_like(self, other):
@@ -133,12 +123,7 @@ class Work:
                 raise InvalidBits(position)
         if not is_between(width, LEAST_WIDTH, MOST_BITS):
             raise InvalidNumber(width)
-        made = list(row)
-        for fill in self._fills:
-            end = fill.extent if fill.extent < len(made) else len(made)
-            for position in range(width, end):
-                made[position] = made[width - 1] if fill.word == SIGN else 0
-        return made
+        return filled(self._fills, row, width)
 
     def __add__(self, other):
         if isinstance(other, Work):
@@ -158,3 +143,31 @@ class Work:
 
     def __repr__(self):
         return f"Work({', '.join([repr(fill) for fill in self._fills])})"
+
+
+def plain_fills(fills):
+    """The fills of the shortest work that is like the one with these fills, of which there may be any number."""
+    kept = []
+    for fill in fills[::-1]:
+        if kept and fill.extent <= kept[-1].extent:
+            # A later fill sets all bits that this one sets.
+            continue
+        if kept and fill.word == kept[-1].word:
+            # Below the later fill's extent this one sets the same; above it, it alone does.
+            kept[-1] = fill
+        else:
+            kept.append(fill)
+    return kept[::-1]
+
+
+def filled(fills, row, width):
+    """The row behind these fills, done one after another; what stands in the row may be more than bits."""
+    made = list(row)
+    done = width
+    # From the last fill back, so that each element is set once.
+    for fill in fills[::-1]:
+        end = fill.extent if fill.extent < len(made) else len(made)
+        for position in range(done, end):
+            made[position] = made[width - 1] if fill.word == SIGN else 0
+        done = end if end > done else done
+    return made

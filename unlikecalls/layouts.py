@@ -33,7 +33,8 @@ def place_letter(options, book, state, letter):
     pieces = [Register(kind.group, begin + number) for number in range(got)]
     growth = 0
     if got < registers_needed(kind):
-        slots = slots_behind(options, state[OFFSET_AT], kind, got)
+        # Of the offset only what is left by 16 is known, which is all that a boundary asks for.
+        slots = next_slots(options, kind, got).from_offset(state[OFFSET_AT]) - state[OFFSET_AT]
         pieces.append(slots)
         growth = slots.end
     return pieces, state_behind(options, state, kind, begin, got, growth), growth
@@ -72,15 +73,15 @@ def registers_got(options, state, kind, begin):
     return 0
 
 
-def slots_behind(options, offset, kind, got):
-    """The slots for what got no register, counted from the offset, of which only the part below 16 is known."""
+def next_slots(options, kind, got):
+    """The Next that finds the slots of an argument that got so many registers, less than it needs."""
     slot = options["slot"]
     size, align = kind.size, kind.align
     if got > 0:
         size = HALF_SIZE
         align = align if align < HALF_SIZE else HALF_SIZE
     boundary = align if options["natural"] and align > slot else slot
-    return Next(boundary, next_multiple(size, slot)).from_offset(offset) - offset
+    return Next(boundary, next_multiple(size, slot))
 
 
 def state_behind(options, state, kind, begin, got, growth):
@@ -122,6 +123,16 @@ def fill_of(fills, name):
     return Fill()
 
 
+def bits_in(pieces):
+    """How many bits these pieces have together."""
+    return sum([piece.bits for piece in pieces])
+
+
+def cut_fill(fills, kind, pieces):
+    """The fill of an argument of this kind, cut at the bits of its pieces."""
+    return fill_of(fills, kind.name).cut(kind.width, bits_in(pieces))
+
+
 def argument_number(layout, value):
     """The value, if it is the number of an argument."""
     if not is_between(value, 0, len(layout) - 1):
@@ -143,13 +154,12 @@ class Layout:
                 arguments.append([piece_behind(piece, offsets[-1]) for piece in placed])
             states.append(state)
             offsets.append(offsets[-1] + growth)
-        bits = [sum([piece.bits for piece in pieces]) for pieces in arguments]
-        named = list(zip(signature.arguments(), bits))
+        kinds = [book.kind(name) for name in signature.arguments()]
         self._convention = convention
         self._signature = signature
         self._pieces = arguments
-        self._bits = bits
-        self._fills = [fill_of(fills, name).cut(book.kind(name).width, many) for name, many in named]
+        self._bits = [bits_in(pieces) for pieces in arguments]
+        self._fills = [cut_fill(fills, kind, pieces) for kind, pieces in zip(kinds, arguments)]
         self._states = states
         self._offsets = offsets
 

@@ -174,7 +174,7 @@ def is_state(book, value, many):
 
 
 def parts_of(plan, name, pieces):
-    """The registers and nexts that mean these pieces of an argument, if the pointer stands at the offset ahead of it."""
+    """The registers and nexts that mean these pieces of an argument, if the pointer is the offset ahead of it."""
     parts = [piece for piece in pieces if isinstance(piece, Register)]
     if len(parts) < len(pieces):
         parts.append(plan.next_of(name, len(parts)))

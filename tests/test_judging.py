@@ -477,6 +477,16 @@ class ShownTest(RaisingTest):
             self.assertEqual(fault(adapter, signature_of("d", WIDE)), ("bit", bit))
             self.assertTrue(self.check_shown(adapter))
 
+    def test_garbage_in_the_place_of_the_lowest_bit(self):
+        book = Book(Kind("x", size=4), Kind("a", size=8, width=8, align=4))
+        plan = Convention(book, slot=4)
+        lower = Step([Next(8, 4)], Work(), [Next(4, 8)])
+        adapter = one_state(plan, plan, x=Step([Next(4, 4)], Work(), [Next(4, 4)]), a=lower)
+        signature = Signature(book, "x", "a")
+        self.assertEqual((first_wrong(adapter), fault(adapter, signature)), (signature, ("bit", 0)))
+        self.assertEqual(fault_by_hand(adapter, signature), ("bit", 0))
+        self.assertTrue(self.check_shown(adapter))
+
     def test_values_that_show(self):
         plan = Convention(BOOK, fills={"a": Fill("sign", 10)})
         adapter = one_state(plan, plan, a=Step([Next(8, 8)], Work(Fill("zeros", 9)), [Next(8, 8)]), w=COPY)

@@ -5,7 +5,6 @@ from unlikecalls.conventions import check_convention
 from unlikecalls.errors import InvalidValues
 from unlikecalls.fills import SIGN
 from unlikecalls.frames import Frame, bits_of_number, check_bytes, check_frame, number_of_bits
-from unlikecalls.kinds import check_one_book
 from unlikecalls.places import GROUPS
 from unlikecalls.signatures import check_signature
 
@@ -19,7 +18,6 @@ def call(convention, signature, values, garbage=()):
     check_signature(signature)
     check_values(signature, values)
     check_bytes(garbage)
-    check_one_book([convention, signature])
     layout = convention >> signature
     frame = garbage_frame(garbage, layout.end)
     for argument, name in enumerate(signature.arguments()):
@@ -34,7 +32,6 @@ def read_values(convention, signature, frame):
     check_convention(convention)
     check_signature(signature)
     check_frame(frame)
-    check_one_book([convention, signature])
     layout = convention >> signature
     values = []
     for argument, name in enumerate(signature.arguments()):
@@ -49,7 +46,6 @@ def first_broken(convention, signature, frame, values):
     check_signature(signature)
     check_frame(frame)
     check_values(signature, values)
-    check_one_book([convention, signature])
     layout = convention >> signature
     for argument, name in enumerate(signature.arguments()):
         width = signature.book.kind(name).width

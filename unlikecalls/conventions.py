@@ -118,8 +118,6 @@ class Convention:
         """A tuple: the pieces of a letter, counted from the offset ahead, the next state, the offset's growth."""
         if not is_state(state):
             raise InvalidState(state)
-        if letter not in self._book and not is_word_of(letter, (Signature.MARK,)):
-            raise UnknownKind(letter)
         return place_letter(self._options, self._book, state, letter)
 
     def next_of(self, name, got):

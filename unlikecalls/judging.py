@@ -7,9 +7,6 @@ from unlikecalls.entries import entry_of, passings, walk_entries
 from unlikecalls.kinds import check_one_book
 from unlikecalls.signatures import Signature, check_signature
 
-# With all bits of garbage 1, each value that shows a garbage bit is 0.
-SHOWING_GARBAGE = (255,)
-
 
 def entry(adapter, signature):
     """The entry that a signature leads to, whether or not the steps are right."""
@@ -60,7 +57,6 @@ def ways(adapter):
 
 def shown(adapter):
     """Values, garbage of the call and garbage of the run that show the first wrong bit; None if there is none."""
-    check_adapter(adapter)
     signature = first_wrong(adapter)
     if signature is None or fault(adapter, signature)[0] != "bit":
         return None
@@ -79,7 +75,6 @@ def is_table(adapter, value):
 
 def is_shown(adapter, value):
     """Whether value is a tuple that shows the first wrong bit."""
-    check_adapter(adapter)
     signature = first_wrong(adapter)
     if signature is None or fault(adapter, signature)[0] != "bit":
         return False

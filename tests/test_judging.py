@@ -329,6 +329,20 @@ class TableTest(RaisingTest):
                                                    "w": states[1]["w"]}, {"a": bad, "w": bad}], [1, 2, 2])
         self.assertIsNone(first_wrong(twice))
 
+    def test_asked_again(self):
+        """Answers do not depend on what was asked before, nor on whether adapters were made apart."""
+        for one, other in zip(some_adapters(12), some_adapters(12)):
+            for function in (first_wrong, table, ways, shown, table, first_wrong, ways):
+                found = function(one)
+                if isinstance(found, list):
+                    found = list(found)
+                    function(one).append(None)
+                self.assertEqual(function(one), found)
+                self.assertEqual(function(other), found)
+            self.assertEqual(one.merged(), other.merged())
+            self.assertEqual(one.merged(), one.merged())
+            self.assertEqual(one, other)
+
     def test_long_ways(self):
         many = 200
         good = [Step([Next(8, 8)], Work(), [Next(8, 8)], (at + 1) % many) for at in range(many)]

@@ -150,6 +150,44 @@ class LanguageTest(unittest.TestCase):
                 if isinstance(node, ast.Attribute) and isinstance(node.ctx, ast.Store):
                     self.assertNotIn(node.attr, properties, (name, node.lineno))
 
+    def test_what_is_sorted(self):
+        """Signatures have orders, so sorted, min and max take what is plainly numbers or strings."""
+        found = 0
+        for name, tree in trees():
+            for node in ast.walk(tree):
+                if isinstance(node, ast.Call) and isinstance(node.func, ast.Name) and node.func.id in ("sorted", "min", "max"):
+                    self.assertEqual(node.keywords, [], (name, node.lineno))
+                    plain = is_plain_list(node.args[0]) if len(node.args) == 1 else any(map(is_plain, node.args))
+                    self.assertTrue(plain, (name, node.lineno))
+                    found += 1
+                if isinstance(node, ast.Call) and isinstance(node.func, ast.Attribute):
+                    self.assertNotEqual(node.func.attr, "sort", (name, node.lineno))
+        self.assertGreater(found, 5)
+
+    def test_no_attribute_has_the_name_of_a_method(self):
+        methods = {method.name for _, tree in trees() for node in ast.walk(tree) if isinstance(node, ast.ClassDef)
+                   for method in node.body if isinstance(method, ast.FunctionDef)}
+        barred = {"items", "keys", "values", "pop", "update", "append", "clear", "extend", "insert", "remove", "reverse",
+                  "setdefault", "sort", "args", "encode", "decode", "hex", "fromhex", "format"}
+        for name, tree in trees():
+            for node in ast.walk(tree):
+                if isinstance(node, ast.Attribute) and isinstance(node.ctx, ast.Store):
+                    self.assertNotIn(node.attr, methods | barred, (name, node.lineno))
+
+
+def is_plain(node):
+    """Whether this is plainly a number or a string."""
+    if isinstance(node, ast.Call) and isinstance(node.func, ast.Name):
+        return node.func.id in ("len", "int", "ord", "str", "repr")
+    return isinstance(node, (ast.Constant, ast.JoinedStr))
+
+
+def is_plain_list(node):
+    """Whether this is a list of what is plainly numbers or strings."""
+    if isinstance(node, ast.ListComp):
+        return is_plain(node.elt)
+    return isinstance(node, ast.List) and all(map(is_plain, node.elts))
+
 
 def bound_at_top(tree):
     """The names that a file binds, those of imports included."""

@@ -47,6 +47,17 @@ class JointStatesTest(RaisingTest):
         found.clear()
         self.assertEqual(joint_states(PLANS[0], PLANS[1]), before)
 
+    def test_asked_again(self):
+        """Answers do not depend on what was asked before, nor on whether objects were made apart."""
+        pairs = [(first, second) for first in PLANS[:3] for second in PLANS[1:5]] * 2
+        for first, second in pairs + pairs[::-1]:
+            apart = first.changed(), second.changed()
+            for function in (joint_states, first_unlike, first_lost):
+                self.assertEqual(function(first, second), function(*apart))
+        for _ in range(2):
+            self.check_raises(TooMany, LIMIT, joint_states, *OVER)
+            self.assertEqual(len(joint_states(*FULL)), 400)
+
     def test_example(self):
         first, second = Convention(BOOK, wholes=1), Convention(BOOK, slot=4)
         found = [len(joint_states(first, second)), first_unlike(first, second),

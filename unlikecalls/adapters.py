@@ -2,7 +2,7 @@
 
 from unlikecalls.basics import is_between, is_list
 from unlikecalls.conventions import check_convention
-from unlikecalls.entries import run, walk_entries
+from unlikecalls.entries import MOST_ENTRIES, MOST_STATES, run, walk_entries
 from unlikecalls.errors import (
     InvalidAdapter,
     InvalidNumber,
@@ -10,17 +10,13 @@ from unlikecalls.errors import (
     NotRight,
     OtherConvention,
     TooMany,
-    UnknownKind,
 )
 from unlikecalls.fills import Work, plain_fills
 from unlikecalls.frames import check_bytes, check_frame
 from unlikecalls.kinds import check_one_book
-from unlikecalls.places import Register
-from unlikecalls.sides import fill_at, walk_both
 from unlikecalls.signatures import Signature, check_signature
 from unlikecalls.steps import Step
-
-MOST_STATES = 400
+from unlikecalls.walks import walk_both
 
 
 class Adapter:
@@ -34,26 +30,27 @@ class Adapter:
         names = first.book.names()
         self._first = first
         self._second = second
-        self._states = [{name: state[name] for name in names} for state in states]
+        # The steps of each state, in the sequence of the book.
+        self._rows = [[state[name] for name in names] for state in states]
         self._marks = list(marks)
+        self._walk = None
+        self._merged = None
 
     @classmethod
     def made(cls, first, second):
         """An adapter that is right for all signatures."""
-        rows = walk_both(first, second)
-        numbers = {row[0]: number for number, row in enumerate(rows)}
+        rows = walk_both(first, second).rows
+        names = first.book.names()
         states = []
         marks = []
-        for reached, _, moves in rows:
-            behind = {letter: numbers[tuple([step[1] for step in moves[letter]])] for letter in moves}
+        for number, row in enumerate(rows):
             state = {}
-            for name in first.book.names():
-                pieces, others = moves[name][0][0], moves[name][1][0]
-                reads, writes = parts_of(first, name, pieces), parts_of(second, name, others)
-                state[name] = Step(reads, work_for(fill_at(second, name, others)), writes, behind[name])
+            for name, (steps, behind) in zip(names, row):
+                placing, other = steps[0][0], steps[1][0]
+                state[name] = Step(placing.accesses, other.standing.doing, other.accesses, behind)
             states.append(state)
             # Where the mark came already, it may lead anywhere.
-            marks.append(behind.get(Signature.MARK, numbers[reached]))
+            marks.append(row[-1][1] if len(row) > len(names) else number)
         return cls(first, second, states, marks)
 
     @property
@@ -73,23 +70,29 @@ class Adapter:
 
     def step(self, state, name):
         """The step of a state for a kind."""
-        if not is_between(state, 0, len(self._states) - 1):
+        if not is_between(state, 0, len(self._rows) - 1):
             raise InvalidNumber(state)
-        if name not in self._first.book:
-            raise UnknownKind(name)
-        return self._states[state][name]
+        return self._rows[state][self._first.book.number_of(name)]
 
     def mark(self, state):
         """The state to which the mark leads from a state."""
-        if not is_between(state, 0, len(self._states) - 1):
+        if not is_between(state, 0, len(self._rows) - 1):
             raise InvalidNumber(state)
         return self._marks[state]
+
+    def steps_at(self, state):
+        """The steps of a state, in the sequence of the book."""
+        return self._rows[state]
 
     def state_behind(self, state, letter):
         """The state to which a letter leads from a state."""
         if letter == Signature.MARK:
             return self._marks[state]
-        return self._states[state][letter].next_state
+        return self._rows[state][self._first.book.number_of(letter)].next_state
+
+    def states_behind(self, state):
+        """The states to which the letters lead from a state, in their sequence."""
+        return [*[step.next_state for step in self._rows[state]], self._marks[state]]
 
     def __call__(self, signature, frame, garbage=()):
         check_signature(signature)
@@ -98,32 +101,32 @@ class Adapter:
         check_one_book([self, signature])
         return run(self, signature, frame, garbage)
 
+    def entry_walk(self):
+        """The walk through the reached entries, which are not too many."""
+        if self._walk is None:
+            self._walk = walk_entries(self)
+        if self._walk.is_cut:
+            raise TooMany("entries", MOST_ENTRIES)
+        return self._walk
+
     def then(self, other):
         """The adapter that does what this one does, and then the other one."""
         check_adapter(other)
         if self._second != other._first:
             raise OtherConvention(self._second, other._first)
-        witnesses = [walk_entries(adapter)[1] for adapter in (self, other)]
-        for witness in witnesses:
-            if witness is not None:
-                raise NotRight(witness)
+        walks = [self.entry_walk(), other.entry_walk()]
+        book = self.book
+        for walk in walks:
+            letters = walk.wrong
+            if letters is not None:
+                raise NotRight(Signature(book, *letters))
         return put_behind(self, other)
 
     def merged(self):
         """The adapter that does the same with as few states as possible."""
-        classes = state_classes(self)
-        # Any state of a class will do, since all of them go on alike.
-        samples = [classes.index(number) for number in range(max(classes) + 1)]
-        letters = letters_of(self)
-        behind = [{letter: classes[self.state_behind(state, letter)] for letter in letters} for state in samples]
-        reached = reached_by_rows(letters, classes[0], lambda one, letter: behind[one][letter])
-        numbers = {one: number for number, one in enumerate(reached)}
-        states = []
-        for one in reached:
-            steps = self._states[samples[one]]
-            states.append({name: plain_step(steps[name], numbers[behind[one][name]]) for name in steps})
-        marks = [numbers[behind[one][Signature.MARK]] for one in reached]
-        return Adapter(self._first, self._second, states, marks)
+        if self._merged is None:
+            self._merged = merge(self)
+        return self._merged
 
     def first_other(self, adapter):
         """The first row of letters for whose last one the steps differ; None if there is none."""
@@ -139,14 +142,14 @@ class Adapter:
         return self.first_other(adapter) is None
 
     def __len__(self):
-        return len(self._states)
+        return len(self._rows)
 
     def __eq__(self, other):
         if not isinstance(other, Adapter):
             return False
         if self._first != other._first or self._second != other._second:
             return False
-        return self._states == other._states and self._marks == other._marks
+        return self._rows == other._rows and self._marks == other._marks
 
 
 def check_adapter(value):
@@ -173,37 +176,34 @@ def is_state(book, value, many):
     return all([name in book and isinstance(step, Step) and step.next_state < many for name, step in value.items()])
 
 
-def parts_of(plan, name, pieces):
-    """The registers and nexts that mean these pieces of an argument, if the pointer is the offset ahead of it."""
-    parts = [piece for piece in pieces if isinstance(piece, Register)]
-    if len(parts) < len(pieces):
-        parts.append(plan.next_of(name, len(parts)))
-    return parts
+def merge(adapter):
+    """The adapter that does the same as this one with as few states as possible."""
+    classes, many = state_classes(adapter)
+    # Any state of a class will do, since all of them go on alike; classes are numbered as they come first.
+    samples = []
+    for state, one in enumerate(classes):
+        if one == len(samples):
+            samples.append(state)
+    rows = [[classes[state] for state in adapter.states_behind(sample)] for sample in samples]
+    order = reached_by_rows(classes[0], lambda one: rows[one])
+    numbers = {one: number for number, one in enumerate(order)}
+    names = adapter.book.names()
+    states = []
+    for one in order:
+        state = {}
+        for name, step, behind in zip(names, adapter.steps_at(samples[one]), rows[one]):
+            state[name] = Step(step.reads(), step.work.plain(), step.writes(), numbers[behind])
+        states.append(state)
+    return Adapter(adapter.first, adapter.second, states, [numbers[rows[one][-1]] for one in order])
 
 
-def work_for(fill):
-    """The work that does a fill, which may be FREE."""
-    return Work() + fill
-
-
-def plain_step(step, next_state):
-    """A step that is like this one, with a plain work, and leads to this state."""
-    return Step(step.reads(), step.work.plain(), step.writes(), next_state)
-
-
-def letters_of(adapter):
-    """The letters of an adapter's rows: the names of the kinds, and the mark."""
-    return [*adapter.book.names(), Signature.MARK]
-
-
-def reached_by_rows(letters, start, behind):
+def reached_by_rows(start, behind):
     """What rows of letters lead to from start on, as rows in order reach it first."""
     reached = [start]
     seen = {start: True}
     at = 0
     while at < len(reached):
-        for letter in letters:
-            state = behind(reached[at], letter)
+        for state in behind(reached[at]):
             if state not in seen:
                 seen[state] = True
                 reached.append(state)
@@ -216,22 +216,23 @@ def reached_by_rows(letters, start, behind):
 def put_behind(adapter, other):
     """The adapter that does what the first one does and then the other one, both right for all signatures."""
     names = adapter.book.names()
-    letters = letters_of(adapter)
-    pairs = reached_by_rows(letters, (0, 0), lambda pair, letter: pair_behind(adapter, other, pair, letter))
+    pairs = reached_by_rows((0, 0), lambda pair: pairs_behind(adapter, other, pair))
     numbers = {pair: number for number, pair in enumerate(pairs)}
     states = []
     marks = []
     for pair in pairs:
-        behind = {letter: numbers[pair_behind(adapter, other, pair, letter)] for letter in letters}
-        steps = {name: (adapter.step(pair[0], name), other.step(pair[1], name)) for name in names}
-        states.append({name: joined_step(steps[name][0], steps[name][1], behind[name]) for name in names})
-        marks.append(behind[Signature.MARK])
+        behind = [numbers[one] for one in pairs_behind(adapter, other, pair)]
+        state = {}
+        for name, step, later, number in zip(names, adapter.steps_at(pair[0]), other.steps_at(pair[1]), behind):
+            state[name] = joined_step(step, later, number)
+        states.append(state)
+        marks.append(behind[-1])
     return Adapter(adapter.first, other.second, states, marks)
 
 
-def pair_behind(adapter, other, pair, letter):
-    """The states to which a letter leads from these states of two adapters."""
-    return adapter.state_behind(pair[0], letter), other.state_behind(pair[1], letter)
+def pairs_behind(adapter, other, pair):
+    """The pairs of states to which the letters lead from these states of two adapters, in their sequence."""
+    return list(zip(adapter.states_behind(pair[0]), other.states_behind(pair[1])))
 
 
 def joined_step(step, other, next_state):
@@ -241,56 +242,51 @@ def joined_step(step, other, next_state):
     return Step(step.reads(), Work(*fills), other.writes(), next_state)
 
 
-def shape_of(step):
-    """A text that is the same for the steps that are like each other."""
-    return f"{step.reads()!r} {step.work.plain()!r} {step.writes()!r}"
+def state_classes(adapter):
+    """A number for each state, the same one for those that do the same for all rows of letters, and how many."""
+    rows = [adapter.states_behind(state) for state in range(len(adapter))]
+    classes, many = numbered(shapes_of(adapter))
+    before = 0
+    while before < many:
+        # States are parted as long as letters lead from them to states that are parted.
+        before = many
+        classes, many = numbered([(classes[state], *[classes[one] for one in row]) for state, row in enumerate(rows)])
+    return classes, many
 
 
 def shapes_of(adapter):
-    """The shapes of all steps: for each state a dict from the names of the kinds."""
-    names = adapter.book.names()
-    return [{name: shape_of(adapter.step(state, name)) for name in names} for state in range(len(adapter))]
-
-
-def state_classes(adapter):
-    """A number for each state: the same one for those that do the same for all rows of letters."""
-    letters = letters_of(adapter)
-    behind = [[adapter.state_behind(state, letter) for letter in letters] for state in range(len(adapter))]
-    classes = numbered([tuple(list(shapes.values())) for shapes in shapes_of(adapter)])
-    many = 0
-    while many <= max(classes):
-        # States are parted as long as letters lead from them to states that are parted.
-        many = max(classes) + 1
-        classes = numbered([(classes[state], *[classes[one] for one in row]) for state, row in enumerate(behind)])
-    return classes
+    """For each state the shapes of its steps, as a tuple."""
+    return [tuple([step.shape() for step in adapter.steps_at(state)]) for state in range(len(adapter))]
 
 
 def numbered(keys):
-    """A number for each key, the same one for equal keys, from 0 on."""
+    """A number for each key, from 0 on, as they come first, the same one for equal keys; and how many there are."""
     numbers = {}
-    return [numbers.setdefault(key, len(numbers)) for key in keys]
+    found = [numbers.setdefault(key, len(numbers)) for key in keys]
+    return found, len(numbers)
 
 
 def first_other_row(adapter, other):
     """The first row of letters for whose last one the steps of two adapters differ; None if there is none."""
     shapes, other_shapes = shapes_of(adapter), shapes_of(other)
+    letters = [*adapter.book.names(), Signature.MARK]
     many = len(adapter)
     # States that have a root in common do the same, or are still to be compared by rows that are not longer; so
     # a pair of them needs no look of its own. Those of the other adapter are counted on behind those of this one.
     roots = list(range(many + len(other)))
     roots[many] = 0
-    queue = [((), 0, 0)]
+    queue = [((), (0, 0))]
     at = 0
     while at < len(queue):
-        row, state, other_state = queue[at]
-        for letter in letters_of(adapter):
-            if letter != Signature.MARK and shapes[state][letter] != other_shapes[other_state][letter]:
+        row, pair = queue[at]
+        for letter, shape, other_shape in zip(letters, shapes[pair[0]], other_shapes[pair[1]]):
+            if shape != other_shape:
                 return [*row, letter]
-            behind, other_behind = pair_behind(adapter, other, (state, other_state), letter)
-            root, other_root = root_of(roots, behind), root_of(roots, many + other_behind)
+        for letter, behind in zip(letters, pairs_behind(adapter, other, pair)):
+            root, other_root = root_of(roots, behind[0]), root_of(roots, many + behind[1])
             if root != other_root:
                 roots[other_root] = root
-                queue.append((row + (letter,), behind, other_behind))
+                queue.append(((*row, letter), behind))
         at += 1
     return None
 

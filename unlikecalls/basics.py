@@ -11,12 +11,12 @@ def is_integer(value):
 
 def is_count(value):
     """Whether value is a COUNT, an INTEGER that is at least 0."""
-    return is_integer(value) and value >= 0
+    return isinstance(value, int) and not isinstance(value, bool) and value >= 0
 
 
 def is_byte(value):
     """Whether value is a BYTE, a COUNT below 256."""
-    return is_count(value) and value < 256
+    return isinstance(value, int) and not isinstance(value, bool) and 0 <= value < 256
 
 
 def is_name(value):
@@ -28,7 +28,7 @@ def is_name(value):
 
 def is_between(value, least, most):
     """Whether value is an INTEGER from least to most."""
-    return is_integer(value) and least <= value <= most
+    return isinstance(value, int) and not isinstance(value, bool) and least <= value <= most
 
 
 def is_one_of(value, numbers):

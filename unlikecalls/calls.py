@@ -1,10 +1,14 @@
-"""Calls by a convention, and what a callee reads from them [42], [43]."""
+"""Calls by a convention, and what a callee reads from them [42], [43].
+
+The bits of an argument are told by a number here, the lowest bit first, and which of them are known by another one,
+in which they are 1.
+"""
 
 from unlikecalls.basics import is_list
 from unlikecalls.conventions import check_convention
 from unlikecalls.errors import InvalidValues
 from unlikecalls.fills import SIGN
-from unlikecalls.frames import Frame, bits_of_number, check_bytes, check_frame, number_of_bits
+from unlikecalls.frames import bytes_of_number, check_bytes, check_frame, made_frame, number_of_bytes
 from unlikecalls.places import GROUPS
 from unlikecalls.signatures import check_signature
 
@@ -20,10 +24,9 @@ def call(convention, signature, values, garbage=()):
     check_bytes(garbage)
     layout = convention >> signature
     frame = garbage_frame(garbage, layout.end)
-    for argument, name in enumerate(signature.arguments()):
-        width = signature.book.kind(name).width
-        promised = promised_row(values[argument], width, layout.fill(argument), layout.bits_of(argument))
-        put_row(frame, layout.pieces(argument), promised)
+    for argument, width in enumerate(widths_of(signature)):
+        number, known = promised_number(values[argument], width, layout.fill(argument))
+        put_pieces(frame, layout.pieces(argument), number, known)
     return frame
 
 
@@ -33,11 +36,8 @@ def read_values(convention, signature, frame):
     check_signature(signature)
     check_frame(frame)
     layout = convention >> signature
-    values = []
-    for argument, name in enumerate(signature.arguments()):
-        row = row_at(frame, layout.pieces(argument))
-        values.append(number_of_bits(row[:signature.book.kind(name).width]))
-    return values
+    widths = widths_of(signature)
+    return [number_in(frame, layout.pieces(argument)) & ones(width) for argument, width in enumerate(widths)]
 
 
 def first_broken(convention, signature, frame, values):
@@ -47,12 +47,11 @@ def first_broken(convention, signature, frame, values):
     check_frame(frame)
     check_values(signature, values)
     layout = convention >> signature
-    for argument, name in enumerate(signature.arguments()):
-        width = signature.book.kind(name).width
-        promised = promised_row(values[argument], width, layout.fill(argument), layout.bits_of(argument))
-        position = first_other_bit(promised, row_at(frame, layout.pieces(argument)))
-        if position is not None:
-            return argument, position
+    for argument, width in enumerate(widths_of(signature)):
+        number, known = promised_number(values[argument], width, layout.fill(argument))
+        wrong = (number ^ number_in(frame, layout.pieces(argument))) & known
+        if wrong != 0:
+            return argument, lowest_one(wrong)
     return None
 
 
@@ -71,53 +70,69 @@ def check_values(signature, values):
             raise InvalidValues(position)
 
 
-def promised_row(value, width, fill, many):
-    """So many bits, as they are promised for a value with this width and this cut fill; None where nothing is."""
-    bits = bits_of_number(value, width)
-    if not fill.is_free:
-        filling = bits[-1] if fill.word == SIGN else 0
-        bits = bits + [filling] * (fill.extent - width)
-    return bits + [None] * (many - len(bits))
+def widths_of(signature):
+    """The width of each argument of a signature."""
+    widths = {kind.name: kind.width for kind in signature.book.kinds()}
+    return [widths[name] for name in signature.arguments()]
 
 
-def first_other_bit(promised, found):
-    """The position of the lowest bit that is promised and is not found so; None if there is none."""
-    for position, bit in enumerate(promised):
-        if bit is not None and bit != found[position]:
-            return position
-    return None
+def ones(many):
+    """The number whose lowest bits, so many of them, are 1."""
+    return (1 << many) - 1
+
+
+def lowest_one(number):
+    """The position of the lowest bit of a number that is 1."""
+    return (number & -number).bit_length() - 1
+
+
+def promised_number(value, width, fill):
+    """The bits that are promised for a value with this width and this cut fill, and which ones these are."""
+    return with_fill(value, width, fill), ones(width if fill.is_free else fill.extent)
+
+
+def with_fill(number, width, fill):
+    """The number with the bits of a cut fill above its lowest bits, so many as the width."""
+    if fill.is_free:
+        return number
+    touched = ones(fill.extent) ^ ones(width)
+    if fill.word == SIGN and number >> (width - 1) & 1 == 1:
+        return number | touched
+    return number & ~touched
 
 
 def garbage_frame(garbage, size):
     """A frame with so many bytes of area, all of it garbage: the registers first, and then the area."""
+    ahead = len(GROUPS) * len(GARBAGE_REGISTERS) * BYTES_OF_REGISTER
+    row = garbage_bytes(garbage, ahead + size)
     registers = {}
     at = 0
     for group in GROUPS:
         for number in GARBAGE_REGISTERS:
-            some = garbage_bytes(garbage, at, BYTES_OF_REGISTER)
-            registers[(group, number)] = sum([byte << 8 * position for position, byte in enumerate(some)])
+            registers[(group, number)] = number_of_bytes(row[at:at + BYTES_OF_REGISTER])
             at += BYTES_OF_REGISTER
-    return Frame(garbage_bytes(garbage, at, size), registers)
+    return made_frame(row[ahead:], registers)
 
 
-def garbage_bytes(garbage, at, many):
-    """So many bytes of garbage from this one on; it begins again behind its last byte."""
+def garbage_bytes(garbage, many):
+    """So many bytes of garbage; it begins again behind its last byte."""
     if len(garbage) == 0:
         return [0] * many
-    return [garbage[(at + number) % len(garbage)] for number in range(many)]
+    row = list(garbage) * (many // len(garbage) + 1)
+    return row[:many]
 
 
-def row_at(frame, pieces):
+def number_in(frame, pieces):
     """The bits that stand in these pieces, one piece after another."""
-    row = []
-    for piece in pieces:
-        row.extend(frame.bits_at(piece))
-    return row
+    number = 0
+    for piece in pieces[::-1]:
+        number = number << piece.bits | frame.number_at(piece)
+    return number
 
 
-def put_row(frame, pieces, row):
-    """Puts the bits of a row into these pieces, one piece after another."""
-    at = 0
+def put_pieces(frame, pieces, number, known):
+    """Puts the known bits of a number into these pieces, one piece after another."""
     for piece in pieces:
-        frame.put(piece, row[at:at + piece.bits])
-        at += piece.bits
+        most = ones(piece.bits)
+        frame.put_number(piece, number & most, known & most)
+        number, known = number >> piece.bits, known >> piece.bits

@@ -12,7 +12,8 @@ from unlikecalls.errors import (
 )
 from unlikecalls.fills import Fill
 from unlikecalls.kinds import Book
-from unlikecalls.layouts import FIRST_STATE, Layout, fill_of, next_slots, place_letter
+from unlikecalls.layouts import FIRST_STATE, Layout, Rule, fill_of, place_letter
+from unlikecalls.machines import Machine
 from unlikecalls.signatures import Signature
 
 # In the sequence in which they are checked; the fills come behind all of them.
@@ -43,6 +44,10 @@ class Convention:
         told = tuple([options[option] for option in OPTIONS])
         words = tuple([str(self._fills[name]) for name in book.names()])
         self._parts = (book.parts(), told, words)
+        kinds = book.kinds()
+        self._rules = {kind.name: Rule(options, kind) for kind in kinds}
+        self._machine = Machine([self._rules[kind.name] for kind in kinds], kinds,
+                                [self._fills[kind.name] for kind in kinds])
 
     @property
     def book(self):
@@ -100,9 +105,13 @@ class Convention:
             raise UnknownKind(name)
         return self._fills[name]
 
+    def told_options(self):
+        """A dict of the options by their names, without the fills."""
+        return {option: self._options[option] for option in OPTIONS}
+
     def changed(self, **options):
         """The convention with these options instead."""
-        strangers = sorted([name for name in options if name not in OPTIONS and name != "fills"])
+        strangers = sorted([str(name) for name in options if name not in OPTIONS and name != "fills"])
         if strangers:
             raise InvalidOption(strangers[0], options[strangers[0]])
         told = {"fills": self._fills}
@@ -118,18 +127,24 @@ class Convention:
         """A tuple: the pieces of a letter, counted from the offset ahead, the next state, the offset's growth."""
         if not is_state(state):
             raise InvalidState(state)
-        return place_letter(self._options, self._book, state, letter)
+        if letter not in self._book and letter != Signature.MARK:
+            raise UnknownKind(letter)
+        return place_letter(self._rules, state, letter)
 
-    def next_of(self, name, got):
-        """The Next that finds the slots of an argument of a kind that got so many registers, less than it needs."""
-        return next_slots(self._options, self._book.kind(name), got)
+    def parts(self):
+        """All that this convention tells, as a tuple: equal conventions have equal parts."""
+        return self._parts
+
+    def machine(self):
+        """What this convention does from state to state."""
+        return self._machine
 
     def __rshift__(self, other):
         if not isinstance(other, Signature):
             raise InvalidSignature(other)
         if self._book != other.book:
             raise OtherBook(self._book, other.book)
-        return Layout(self, other, self._options, self._fills)
+        return Layout(self, other, self._rules, self._fills)
 
     def __eq__(self, other):
         return isinstance(other, Convention) and self._parts == other._parts
@@ -142,6 +157,15 @@ def is_allowed(option, value):
     if option in WORDS:
         return is_word_of(value, WORDS[option])
     return isinstance(value, bool)
+
+
+def allowed_values(option):
+    """All values that an option other than the fills may have."""
+    if option in NUMBERS:
+        return list(NUMBERS[option])
+    if option in WORDS:
+        return list(WORDS[option])
+    return [True, False]
 
 
 def are_fills(book, value):

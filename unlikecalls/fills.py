@@ -107,6 +107,8 @@ class Work:
     def plain(self):
         """The shortest work that is like this one."""
         fills = plain_fills(self._fills)
+        if len(fills) == len(self._fills):
+            return self
         return Work(*fills)
 
     def is_like(self, other):
@@ -167,7 +169,7 @@ def filled(fills, row, width):
     # From the last fill back, so that each element is set once.
     for fill in fills[::-1]:
         end = fill.extent if fill.extent < len(made) else len(made)
-        for position in range(done, end):
-            made[position] = made[width - 1] if fill.word == SIGN else 0
-        done = end if end > done else done
+        if end > done:
+            made[done:end] = [made[width - 1] if fill.word == SIGN else 0] * (end - done)
+            done = end
     return made

@@ -6,6 +6,8 @@ from unlikecalls.places import GROUPS, LAST_NUMBER, Register, Slots
 
 MOST_BYTES_OF_AREA = 20000
 GREATEST_OF_REGISTER = 2 ** 64 - 1
+# The groups in the order of strings.
+GROUPS_AS_STRINGS = ("float", "whole")
 
 
 class Frame:
@@ -24,7 +26,8 @@ class Frame:
 
     def registers(self):
         """The registers that are not 0, by tuples (group, number), sorted."""
-        return {key: self._registers[key] for key in sorted(self._registers) if self._registers[key] != 0}
+        keys = [(group, number) for group in GROUPS_AS_STRINGS for number in range(LAST_NUMBER + 1)]
+        return {key: self._registers[key] for key in keys if self._registers.get(key, 0) != 0}
 
     @property
     def size(self):
@@ -66,18 +69,13 @@ class Frame:
 
     def copy(self):
         """A frame with the same content that changes independently."""
-        return Frame(self._area, self._registers)
+        return made_frame(self.area(), self.registers())
 
     def bits_at(self, place):
         """The bits of a register or of slots; bytes behind the area are 0."""
-        if isinstance(place, Register):
-            return bits_of_number(self._registers.get((place.group, place.number), 0), place.bits)
-        if not isinstance(place, Slots):
+        if not isinstance(place, (Register, Slots)):
             raise InvalidPlace(place)
-        bits = []
-        for at in range(place.offset, place.end):
-            bits.extend(bits_of_number(byte_at(self._area, at), 8))
-        return bits
+        return bits_of_number(self.number_at(place), place.bits)
 
     def put(self, place, bits):
         """Sets the bits of a register or of slots, those that are 0 or 1."""
@@ -86,14 +84,23 @@ class Frame:
         if isinstance(place, Slots) and place.end > len(self._area):
             raise InvalidPlace(place)
         check_bits(bits, place.bits)
-        row = self.bits_at(place)
-        for position, bit in enumerate(bits):
-            if bit is not None:
-                row[position] = bit
+        known = [0 if bit is None else 1 for bit in bits]
+        self.put_number(place, number_of_bits([bit or 0 for bit in bits]), number_of_bits(known))
+
+    def number_at(self, place):
+        """The bits of a register or of slots as a number; bytes behind the area are 0."""
         if isinstance(place, Register):
-            self._registers[(place.group, place.number)] = number_of_bits(row)
+            return self._registers.get((place.group, place.number), 0)
+        return number_of_bytes(self._area[place.offset:place.end])
+
+    def put_number(self, place, number, known):
+        """Sets those bits of a register, or of slots within the area, that are 1 in known, to those of a number."""
+        if known != (1 << place.bits) - 1:
+            number = number & known | self.number_at(place) & ~known
+        if isinstance(place, Register):
+            self._registers[(place.group, place.number)] = number
         else:
-            self._area[place.offset:place.end] = [number_of_bits(row[at:at + 8]) for at in range(0, len(row), 8)]
+            self._area[place.offset:place.end] = bytes_of_number(number, place.many)
 
     def __eq__(self, other):
         if not isinstance(other, Frame):
@@ -131,6 +138,19 @@ def number_of_bits(bits):
     return sum([bit << position for position, bit in enumerate(bits)])
 
 
+def number_of_bytes(row):
+    """The number with these bytes, the lowest one first."""
+    number = 0
+    for byte in row[::-1]:
+        number = number << 8 | byte
+    return number
+
+
+def bytes_of_number(number, many):
+    """So many bytes of a number, the lowest one first."""
+    return [number >> at & 255 for at in range(0, 8 * many, 8)]
+
+
 def check_bytes(value):
     """Refuses what is no list of BYTES."""
     if not is_list(value):
@@ -138,6 +158,13 @@ def check_bytes(value):
     for position, byte in enumerate(value):
         if not is_byte(byte):
             raise InvalidBytes(position)
+
+
+def made_frame(area, registers):
+    """A frame with this area and these registers, which are right and are not kept elsewhere."""
+    frame = Frame()
+    frame._area, frame._registers = area, registers
+    return frame
 
 
 def check_registers(value):

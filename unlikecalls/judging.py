@@ -3,7 +3,7 @@
 from unlikecalls.adapters import check_adapter
 from unlikecalls.basics import is_byte, is_integer, is_list
 from unlikecalls.calls import call, keeps
-from unlikecalls.entries import entry_of, passings, walk_entries
+from unlikecalls.entries import entry_of, follow, is_right_for
 from unlikecalls.kinds import check_one_book
 from unlikecalls.signatures import Signature, check_signature
 
@@ -17,42 +17,41 @@ def entry(adapter, signature):
 def fault(adapter, signature):
     """The fault of the step of the last argument; None if it is right, or if the last letter is none."""
     check_both(adapter, signature)
-    if len(signature) == 0 or signature[len(signature) - 1] == Signature.MARK:
+    letters = signature.letters()
+    if len(letters) == 0 or letters[-1] == Signature.MARK:
         return None
-    return passings(adapter, signature)[-1].fault()
+    return follow(adapter, letters[:-1]).fault_at(letters[-1])
 
 
 def is_right(adapter, signature):
     """Whether the steps of all arguments of a signature are right."""
     check_both(adapter, signature)
-    return all([passing.fault() is None for passing in passings(adapter, signature)])
+    return is_right_for(adapter, signature.letters())
 
 
 def first_wrong(adapter):
     """The first signature for which the adapter is not right; None if there is none."""
     check_adapter(adapter)
-    return walk_entries(adapter)[1]
+    letters = adapter.entry_walk().wrong
+    if letters is None:
+        return None
+    book = adapter.book
+    return Signature(book, *letters)
 
 
 def table(adapter):
     """The list of all reached entries, sorted; None if the adapter is not right for all signatures."""
     check_adapter(adapter)
-    reached, wrong = walk_entries(adapter)
-    if wrong is not None:
+    walk = adapter.entry_walk()
+    if walk.wrong is not None:
         return None
-    return sorted(reached)
+    return walk.entries_in_sequence()
 
 
 def ways(adapter):
     """The tuples of a reached entry and the first signature that leads to it by right steps, sorted by entries."""
     check_adapter(adapter)
-    book = adapter.book
-    reached, _ = walk_entries(adapter)
-    found = []
-    for one in sorted(reached):
-        letters = reached[one]
-        found.append((one, Signature(book, *letters)))
-    return found
+    return adapter.entry_walk().ways_in_sequence(adapter.book)
 
 
 def shown(adapter):
@@ -60,8 +59,9 @@ def shown(adapter):
     signature = first_wrong(adapter)
     if signature is None or fault(adapter, signature)[0] != "bit":
         return None
+    letters = signature.letters()
     values = [0] * len(signature.arguments())
-    values[-1] = passings(adapter, signature)[-1].wrong_value()
+    values[-1] = follow(adapter, letters[:-1]).wrong_value(letters[-1])
     return values, [255], [255]
 
 

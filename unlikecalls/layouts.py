@@ -1,7 +1,7 @@
 """Layouts: where the arguments of a signature stand [31], [32], [33].
 
-A convention hands over what it tells as a dict of its options by their names, without the fills, and a dict of
-its fills by the names of kinds. Both have been checked by then.
+A convention hands over a Rule for each kind of its book, and its fills, both as dicts by the names of the kinds. What
+they tell has been checked by then.
 """
 
 from unlikecalls.basics import is_between
@@ -18,59 +18,22 @@ OFFSET_MODULUS = 16
 HALF_SIZE = 8
 
 
-def place_letter(options, book, state, letter):
-    """A tuple: the pieces of a letter, the next state, and by how much the offset grows.
+class Rule:
+    """How a convention with these options places the arguments of one kind."""
 
-    The offsets of slots are counted from the offset ahead of the letter.
-    """
-    if letter == Signature.MARK:
-        marked = list(state)
-        marked[MARK_AT] = 1
-        return [], tuple(marked), 0
-    kind = book.kind(letter)
-    begin = begin_of(options, state, kind)
-    got = registers_got(options, state, kind, begin)
-    pieces = [Register(kind.group, begin + number) for number in range(got)]
-    growth = 0
-    if got < registers_needed(kind):
-        # Of the offset only what is left by 16 is known, which is all that a boundary asks for.
-        slots = next_slots(options, kind, got).from_offset(state[OFFSET_AT]) - state[OFFSET_AT]
-        pieces.append(slots)
-        growth = slots.end
-    return pieces, state_behind(options, state, kind, begin, got, growth), growth
-
-
-def registers_needed(kind):
-    """How many registers an argument of this kind needs."""
-    return 2 if kind.is_double else 1
-
-
-def is_sent_to_slots(options, state, kind):
-    """Whether an argument goes to slots however many registers there are."""
-    if state[CLOSED_AT + GROUPS.index(kind.group)] == 1:
-        return True
-    return state[MARK_AT] == 1 and options["tail"] == "slots"
-
-
-def begin_of(options, state, kind):
-    """The number of the register where an argument begins, whether or not there is one."""
-    used = state[GROUPS.index(kind.group)]
-    if kind.is_double and options["doubles"] == "even":
-        return next_multiple(used, 2)
-    return used
-
-
-def registers_got(options, state, kind, begin):
-    """How many registers an argument gets that would begin there."""
-    if is_sent_to_slots(options, state, kind):
-        return 0
-    left = options["wholes" if kind.group == "whole" else "floats"] - begin
-    needed = registers_needed(kind)
-    if left >= needed:
-        return needed
-    if left == 1 and options["doubles"] == "split":
-        return 1
-    return 0
+    def __init__(self, options, kind):
+        self.group_at = GROUPS.index(kind.group)
+        self.needed = 2 if kind.is_double else 1
+        self.limit = options["wholes" if kind.group == "whole" else "floats"]
+        self.ceiling = max(int(options["wholes"]), int(options["floats"]))
+        self.is_even = kind.is_double and options["doubles"] == "even"
+        self.is_split = kind.is_double and options["doubles"] == "split"
+        self.is_together = options["together"]
+        self.is_again = options["again"]
+        self.is_tail_sent = options["tail"] == "slots"
+        self.bank = [Register(kind.group, number) for number in range(self.limit)]
+        # What finds the slots of an argument that got no register, and of one that got one less than it needs.
+        self.nexts = (next_slots(options, kind, 0), next_slots(options, kind, 1))
 
 
 def next_slots(options, kind, got):
@@ -84,29 +47,62 @@ def next_slots(options, kind, got):
     return Next(boundary, next_multiple(size, slot))
 
 
-def state_behind(options, state, kind, begin, got, growth):
-    """The state behind an argument that would begin there, and got so many registers."""
-    after = list(state)
-    after[OFFSET_AT] = (state[OFFSET_AT] + growth) % OFFSET_MODULUS
-    if is_sent_to_slots(options, state, kind):
-        return tuple(after)
-    group = GROUPS.index(kind.group)
-    touched = [0, 1] if options["together"] else [group]
-    for number in touched:
-        after[number] = used_behind(options, state[group], kind, begin, got)
-        if got < registers_needed(kind) and not options["again"]:
-            after[CLOSED_AT + number] = 1
-    return tuple(after)
+def place_letter(rules, state, letter):
+    """A tuple: the pieces of a letter, the next state, and by how much the offset grows.
+
+    The offsets of slots are counted from the offset ahead of the letter.
+    """
+    offset = state[OFFSET_AT]
+    if letter == Signature.MARK:
+        return [], (*state[:MARK_AT], 1, offset), 0
+    rule = rules[letter]
+    begin, got, taken = take_registers(rule, state[:OFFSET_AT])
+    pieces, growth = pieces_from(rule, begin, got, offset)
+    return pieces, (*taken, (offset + growth) % OFFSET_MODULUS), growth
 
 
-def used_behind(options, used, kind, begin, got):
+def take_registers(rule, taken):
+    """A tuple: the number of the register where an argument begins, how many it gets, and what is taken behind it.
+
+    What is taken are the first five numbers of a state.
+    """
+    if taken[CLOSED_AT + rule.group_at] == 1 or taken[MARK_AT] == 1 and rule.is_tail_sent:
+        return 0, 0, taken
+    used = taken[rule.group_at]
+    begin = next_multiple(used, 2) if rule.is_even else used
+    got = 0
+    if begin + rule.needed <= rule.limit:
+        got = rule.needed
+    elif begin + 1 == rule.limit and rule.is_split:
+        got = 1
+    behind = list(taken)
+    touched = [0, 1] if rule.is_together else [rule.group_at]
+    for group in touched:
+        behind[group] = used_behind(rule, used, begin, got)
+        if got < rule.needed and not rule.is_again:
+            behind[CLOSED_AT + group] = 1
+    return begin, got, tuple(behind)
+
+
+def used_behind(rule, used, begin, got):
     """How many registers are used up behind an argument that was not sent to slots."""
-    if not options["together"]:
+    if not rule.is_together:
         return begin + got if got > 0 else used
     # An argument that lacks registers uses up those that it would have had.
-    behind = begin + registers_needed(kind)
-    most = max(int(options["wholes"]), int(options["floats"]))
-    return behind if behind < most else most
+    behind = begin + rule.needed
+    return behind if behind < rule.ceiling else rule.ceiling
+
+
+def pieces_from(rule, begin, got, offset):
+    """The pieces of an argument that got so many registers from there on, and by how much the offset grows.
+
+    Of the offset only what is left by 16 is told, which is all that a boundary asks for.
+    """
+    pieces = rule.bank[begin:begin + got]
+    if got == rule.needed:
+        return pieces, 0
+    slots = rule.nexts[got].from_offset(offset) - offset
+    return [*pieces, slots], slots.end
 
 
 def piece_behind(piece, offset):
@@ -128,9 +124,15 @@ def bits_in(pieces):
     return sum([piece.bits for piece in pieces])
 
 
-def cut_fill(fills, kind, pieces):
-    """The fill of an argument of this kind, cut at the bits of its pieces."""
-    return fill_of(fills, kind.name).cut(kind.width, bits_in(pieces))
+def cut_fills(signature, fills, bits):
+    """The fill of each argument, cut at as many bits as are told for it."""
+    known = {}
+    cuts = []
+    for name, many in zip(signature.arguments(), bits):
+        if (name, many) not in known:
+            known[(name, many)] = fills[name].cut(signature.book.kind(name).width, many)
+        cuts.append(known[(name, many)])
+    return cuts
 
 
 def argument_number(layout, value):
@@ -143,23 +145,28 @@ def argument_number(layout, value):
 class Layout:
     """Where a convention puts the arguments of a signature. It is made by convention >> signature only."""
 
-    def __init__(self, convention, signature, options, fills):
-        book = signature.book
+    def __init__(self, convention, signature, rules, fills):
+        # Letters that follow the same state are placed once.
+        known = {}
         arguments = []
         states = [FIRST_STATE]
-        offsets = [options["home"]]
+        offset = convention.home
+        offsets = [offset]
         for letter in signature.letters():
-            placed, state, growth = place_letter(options, book, states[-1], letter)
+            key = (states[-1], letter)
+            if key not in known:
+                known[key] = place_letter(rules, states[-1], letter)
+            placed, state, growth = known[key]
             if letter != Signature.MARK:
-                arguments.append([piece_behind(piece, offsets[-1]) for piece in placed])
+                arguments.append([piece_behind(piece, offset) for piece in placed])
+            offset = offset + growth
             states.append(state)
-            offsets.append(offsets[-1] + growth)
-        kinds = [book.kind(name) for name in signature.arguments()]
+            offsets.append(offset)
         self._convention = convention
         self._signature = signature
         self._pieces = arguments
         self._bits = [bits_in(pieces) for pieces in arguments]
-        self._fills = [cut_fill(fills, kind, pieces) for kind, pieces in zip(kinds, arguments)]
+        self._fills = cut_fills(signature, fills, self._bits)
         self._states = states
         self._offsets = offsets
 

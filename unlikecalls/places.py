@@ -5,6 +5,7 @@ from unlikecalls.errors import InvalidNumber, InvalidPlace
 
 GROUPS = ("whole", "float")
 LAST_NUMBER = 7
+GROUP_STRIDE = 8
 REGISTER_BITS = 64
 ALIGNMENTS = (1, 2, 4, 8, 16)
 MOST_BYTES = 16
@@ -34,6 +35,7 @@ class Register(Place):
             raise InvalidPlace(number)
         self._group = group
         self._number = number
+        self._code = (GROUPS.index(group) * GROUP_STRIDE + number, 0)
 
     @property
     def group(self):
@@ -49,6 +51,10 @@ class Register(Place):
     def bits(self):
         """How many bits a register has."""
         return REGISTER_BITS
+
+    def code(self):
+        """Two numbers that tell it, the second one 0: other registers, slots and nexts have others."""
+        return self._code
 
     def __eq__(self, other):
         return isinstance(other, Register) and self._group == other._group and self._number == other._number
@@ -87,6 +93,10 @@ class Slots(Place):
     def bits(self):
         """How many bits these bytes have."""
         return 8 * self._many
+
+    def code(self):
+        """Two numbers that tell these slots: the offset, and how many bytes."""
+        return self._offset, self._many
 
     def __contains__(self, x):
         return is_between(x, self._offset, self._offset + self._many - 1)
@@ -139,6 +149,10 @@ class Next(Place):
     def bits(self):
         """How many bits these bytes have."""
         return 8 * self._many
+
+    def code(self):
+        """Two numbers that tell it: the alignment, and how many bytes."""
+        return self._align, self._many
 
     def from_offset(self, offset):
         """The slots that are meant if the pointer stands at this offset."""

@@ -86,6 +86,21 @@ MANY = (Convention(MANY_BOOK, wholes=1, floats=2, slot=4, natural=False),
         Convention(MANY_BOOK, wholes=3, floats=1, again=True, slot=4, doubles="split"))
 
 
+def plans_of(book, **common):
+    """Conventions of a book that differ from the first one in one option each, and some that differ in several."""
+    plain = Convention(book, **common)
+    options = [{}, {"wholes": 1}, {"wholes": 3}, {"floats": 2}, {"wholes": 2, "floats": 2},
+               {"wholes": 2, "floats": 1, "together": True}, {"wholes": 3, "doubles": "even"},
+               {"wholes": 3, "doubles": "split"}, {"wholes": 1, "again": True}, {"slot": 4}, {"natural": False},
+               {"slot": 4, "natural": False}, {"home": 16}, {"home": 32, "slot": 4}, {"wholes": 2, "tail": "slots"}]
+    return [plain.changed(**each) for each in options]
+
+
+# Conventions of a book that has kinds of all sorts; two of them have few joint states.
+SORTS = Book(Kind("a", size=1, width=7), Kind("d", size=16, width=100, align=8), Kind("f", "float", size=4))
+SORT_PLANS = plans_of(SORTS)
+
+
 def signature_of(letters, book=BOOK):
     """A signature, with a dot for the mark."""
     return Signature(book, *["..." if letter == "." else letter for letter in letters])
@@ -262,6 +277,28 @@ class Dice:
 
     def work(self):
         return Work(*[self.fill() for _ in range(self.roll(4))])
+
+    def convention(self, book):
+        """Any convention of a book."""
+        fills = {name: Fill(self.pick(("zeros", "sign")), self.pick((9, 16, 24, 32, 64, 100, 128)))
+                 for name in book.names() if self.roll(2)}
+        return Convention(book, wholes=self.roll(4), floats=self.roll(4), together=self.roll(2) == 1,
+                          doubles=self.pick(("whole", "even", "split")), again=self.roll(2) == 1, slot=self.pick((4, 8)),
+                          natural=self.roll(2) == 1, home=self.pick((0, 0, 16, 32)), tail=self.pick(("same", "slots")),
+                          fills=fills)
+
+    def signature(self, book, many):
+        """Any signature with so many letters, often with the mark."""
+        letters = [self.pick(book.names()) for _ in range(many)]
+        if many > 0 and self.roll(2):
+            letters[self.roll(many)] = "..."
+        return Signature(book, *letters)
+
+    def frame(self, most=80):
+        """Any frame with an area that is not too long."""
+        registers = {(group, number): self.roll(2 ** 31) * self.roll(2 ** 31) * 3 + self.roll(2)
+                     for group in ("whole", "float") for number in range(8) if self.roll(3)}
+        return Frame([self.roll(256) for _ in range(self.roll(most))], registers)
 
     def adapter(self, first, second, many):
         """Any adapter with so many states, right or wrong."""

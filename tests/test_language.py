@@ -1,6 +1,7 @@
 """The rules of the program's Python subset that can be counted or looked up."""
 
 import ast
+import builtins
 import tokenize
 import unittest
 from pathlib import Path
@@ -102,7 +103,8 @@ class LanguageTest(unittest.TestCase):
                         self.assertNotIn(word, node.value.split(), name)
 
     def test_builtins(self):
-        known = dir(__builtins__) if not isinstance(__builtins__, dict) else list(__builtins__)
+        # Running examples, as other tests do, leaves a name _ among the builtins.
+        known = [name for name in dir(builtins) if name != "_"]
         for name, tree in trees():
             for node in ast.walk(tree):
                 if isinstance(node, ast.Name) and node.id in known:

@@ -246,10 +246,13 @@ class ConventionPaperTest(RaisingTest):
                 self.assertIs(is_paper(claim, [one]), False)
 
     def test_alike_with_another_home(self):
-        first, second = Convention(BOOK, wholes=1), Convention(BOOK, wholes=1, home=16)
-        self.assertEqual(paper_of(("alike", first, second)), "none")
-        shifted = [(one, other, 16) for one, other in joint_states(first, second)]
-        self.assertIs(is_paper(("alike", first, second), shifted), False)
+        for wholes in (0, 1, 3):
+            first, second = Convention(BOOK, wholes=wholes), Convention(BOOK, wholes=wholes, home=16)
+            self.assertEqual(paper_of(("alike", first, second)), "none")
+            for more in (16, 0, -16):
+                shifted = [(one, other, more) for one, other in joint_states(first, second)]
+                self.assertIs(is_paper(("alike", first, second), shifted), False)
+                self.assertIs(is_paper(("alike", first, first), shifted), more == 0)
         self.assertIs(is_paper(("alike", first, second), paper_of(("alike", first, first))), False)
 
     def test_unlike_papers(self):

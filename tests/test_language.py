@@ -176,6 +176,14 @@ class LanguageTest(unittest.TestCase):
                 if isinstance(node, ast.Attribute) and isinstance(node.ctx, ast.Store):
                     self.assertNotIn(node.attr, methods | barred, (name, node.lineno))
 
+    def test_no_property_has_the_name_of_a_plain_method(self):
+        plain, others = set(), set()
+        for _, tree in trees():
+            for node in [each for each in ast.walk(tree) if isinstance(each, ast.ClassDef)]:
+                for method in [each for each in node.body if isinstance(each, ast.FunctionDef)]:
+                    (others if method.decorator_list else plain).add(method.name)
+        self.assertEqual(plain & others, set())
+
 
 def is_plain(node):
     """Whether this is plainly a number or a string."""

@@ -159,6 +159,26 @@ class ShiftTest(RaisingTest):
         self.assertIsNone(tail_fault(fours, eights))
         self.assertIsNone(tail_shift(fours, eights.changed(natural=False), Signature(book, "...", "a")))
 
+    def test_one_kind_that_lies_otherwise(self):
+        """Offsets keep their distance, and one kind alone begins further behind the offset on one side."""
+        book = Book(Kind("a", align=4), Kind("b", size=4, align=8))
+        first, second = Convention(book), Convention(book, slot=4)
+        named = Signature(book, "b", "...")
+        self.assertEqual([shifts_of(first, second, named + name) for name in ("a", "b")], [{-4}, {0}])
+        self.assertIsNone(tail_shift(first, second, named))
+        self.assertIsNone(tail_shift(second, first, named))
+
+    def test_faults_behind_several_letters(self):
+        book = Book(Kind("a"), Kind("f", "float"))
+        two, three = Convention(book, floats=2, again=True), Convention(book, floats=3, again=True)
+        slots = three.changed(tail="slots")
+        for letters in (("...",), ("f", "..."), ("f", "f", "..."), ("a", "f", "...", "f", "a")):
+            for first, second in ((two, three), (three, two), (two, slots)):
+                is_kept = second is slots and letters.count("f") == 2 and letters[-1] == "..."
+                self.assertEqual(tail_shift(first, second, Signature(book, *letters)), 0 if is_kept else None)
+                self.assertIsNotNone(tail_fault(first, second))
+        self.assertEqual(tail_shift(two, three.changed(floats=2, home=16), Signature(book, "...")), 16)
+
     def test_fills(self):
         plan = Convention(BOOK, wholes=1, again=True)
         for fill, wanted, is_kept in ((None, Fill("sign", 9), False), (Fill("sign", 20), Fill("sign", 9), True),

@@ -178,7 +178,7 @@ def is_state(book, value, many):
 
 def merge(adapter):
     """The adapter that does the same as this one with as few states as possible."""
-    classes, many = state_classes(adapter)
+    classes = state_classes(adapter)
     # Any state of a class will do, since all of them go on alike; classes are numbered as they come first.
     samples = []
     for state, one in enumerate(classes):
@@ -243,7 +243,7 @@ def joined_step(step, other, next_state):
 
 
 def state_classes(adapter):
-    """A number for each state, the same one for those that do the same for all rows of letters, and how many."""
+    """A number for each state, from 0 on, as they come first: the same one for those that do the same for all rows."""
     rows = [adapter.states_behind(state) for state in range(len(adapter))]
     classes, many = numbered(shapes_of(adapter))
     before = 0
@@ -251,7 +251,7 @@ def state_classes(adapter):
         # States are parted as long as letters lead from them to states that are parted.
         before = many
         classes, many = numbered([(classes[state], *[classes[one] for one in row]) for state, row in enumerate(rows)])
-    return classes, many
+    return classes
 
 
 def shapes_of(adapter):

@@ -182,7 +182,7 @@ def told_of(word, things):
     if word == "copies":
         lost = first_lost(things[0], things[1])
         return letters_told(None if lost is None else lost[0], "yes")
-    room = least_room(things[0], things[1], backward=word == "back")
+    room = least_room(things[0], things[1], backward=(word == "back"))
     return "none" if room is None else str(room)
 
 

@@ -1,7 +1,7 @@
 """Claims, and the papers that show them [93]."""
 
 from unlikecalls.adapters import Adapter
-from unlikecalls.basics import is_count, is_integer, is_list
+from unlikecalls.basics import is_count, is_integer, is_list, is_word_of
 from unlikecalls.conventions import Convention, is_state
 from unlikecalls.errors import InvalidClaim
 from unlikecalls.judging import first_wrong, is_right, is_table, table
@@ -28,7 +28,7 @@ NO_PAPER = "none"
 
 def is_claim(value):
     """Whether value is a claim."""
-    if not isinstance(value, tuple) or len(value) == 0 or not isinstance(value[0], str) or value[0] not in KINDS:
+    if not isinstance(value, tuple) or len(value) == 0 or not is_word_of(value[0], KINDS):
         return False
     if value[0] in OF_ADAPTERS:
         return len(value) == 2 and isinstance(value[1], Adapter)

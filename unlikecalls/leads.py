@@ -148,13 +148,17 @@ class Climb:
 
     def settle(self, members):
         """Finds the greatest leads of one part, all parts ahead of which are settled."""
-        raised = members
+        raised = members[0]
         rounds = 0
-        while raised and rounds <= len(members):
-            raised = [number for number in members if self.raise_behind(number)]
+        # Without a ring, no way within the part has more letters than members.
+        while raised is not None and rounds <= len(members):
+            raised = None
+            for number in members:
+                if self.raise_behind(number):
+                    raised = number
             rounds += 1
-        if raised:
-            self.ring = self.ring_at(raised[0], len(members))
+        if raised is not None:
+            self.ring = self.ring_at(raised, len(members))
 
     def raise_behind(self, number):
         """Takes over what is greater by way of this joint state; whether something is."""
@@ -180,7 +184,7 @@ class Climb:
             ring.append((at, rank))
         ring = ring[::-1]
         # It begins where it is reached first.
-        begin = min([int(at) for at, _ in ring])
+        begin = min([int(reached) for reached, _ in ring])
         while ring[0][0] != begin:
             ring = ring[1:] + ring[:1]
         return begin, [rank for _, rank in ring]

@@ -104,15 +104,15 @@ class Tails:
 
     def first_shift(self, number):
         """The shift wanted by the first slots of a tail of arguments of the first kind, and how many these are."""
-        lead_there, length = 0, 0
-        while True:
-            moves, behind = self._walk.rows[number][0]
-            shifts = shifts_there(moves)
+        length = 1
+        moves, behind = self._walk.rows[number][0]
+        shifts = shifts_there(moves)
+        # Registers move no offset, and at last there are none left.
+        while not shifts:
             length += 1
-            if shifts:
-                return (None if shifts[0] is None else lead_there + shifts[0]), length
-            lead_there += rise_by(moves)
-            number = behind
+            moves, behind = self._walk.rows[behind][0]
+            shifts = shifts_there(moves)
+        return shifts[0], length
 
     def flaw_at(self, number):
         """Two tails, letters by numbers, that want unlike shifts, for one letter at the most behind this joint state;
@@ -125,18 +125,15 @@ class Tails:
         if self.shifts[number] is None:
             return begun, begun
         for rank, (moves, behind) in enumerate(row):
-            for shift in shifts_there(moves):
-                if shift is None:
-                    return [rank], [rank]
-                if shift != self.shifts[number]:
-                    return begun, [rank]
+            if any([shift != self.shifts[number] for shift in shifts_there(moves)]):
+                return begun, [rank]
             later = self.shifts[behind]
             if later is not None and rise_by(moves) + later != self.shifts[number]:
                 return begun, [rank] + [0] * self._lengths[behind]
         return None
 
     def all_that_lead_to_flaws(self):
-        """For each joint state whether letters lead from it to one with a flaw, or none need to."""
+        """For each joint state whether it has a flaw, or letters lead from it to one with a flaw."""
         sources = [[] for _ in self._walk.rows]
         for number, row in enumerate(self._walk.rows):
             for _, behind in row[:self.many_kinds]:

@@ -16,7 +16,8 @@ from unlikecalls.errors import (
 from unlikecalls.frames import Frame
 from unlikecalls.kinds import Book, Kind
 from unlikecalls.orders import (
-    exchanges, find_order, is_order, move_all, moves_in_sequence, moves_with_spare, register_moves, single_moves, waits,
+    exchanges, find_order, is_order, least_exchanges, move_all, moves_in_sequence, moves_with_spare, register_moves,
+    single_moves, waits,
 )
 from unlikecalls.passes import pass_backward, pass_forward
 from unlikecalls.places import Register, Slots
@@ -296,10 +297,11 @@ class RegisterTest(RaisingTest):
         for rows, rings in (([[0, 1, 0]], 1), ([[0, 1, 2, 0]], 1), ([[0, 1, 0], [2, 3, 4, 2]], 2), ([[0, 1, 2], [3, 4, 3]], 1),
                             ([[3, 2, 1, 0], [5, 6]], 0), ([[0, 1, 0], [2, 3, 2], [4, 5, 4], [6, 7]], 3), ([], 0)):
             moves = [(whole[one], whole[other]) for row in rows for one, other in zip(row, row[1:])]
-            row = moves_in_sequence(moves)
-            self.assertEqual(len(row), len(moves) + rings)
-            self.check_row(moves, row)
-            self.assertEqual(len([source for source, _ in row if source is None]), rings)
+            done = moves_in_sequence(moves)
+            self.assertEqual(len(done), len(moves) + rings)
+            self.check_row(moves, done)
+            self.assertEqual(len([source for source, _ in done if source is None]), rings)
+            self.assertEqual(least_exchanges(moves), sum(len(set(row)) - 1 for row in rows))
 
     def test_lists_are_new(self):
         book = Book(Kind("a"), Kind("f", "float"))

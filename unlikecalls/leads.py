@@ -95,7 +95,8 @@ def is_rising(first, second, value):
     way, ring = value
     if not is_signature_of(first.book, way) or not is_signature_of(first.book, ring):
         return False
-    if len(way) + len(ring) > MOST_LETTERS or way.has_mark and ring.has_mark:
+    # From behind the mark no letter leads back.
+    if len(way) + len(ring) > MOST_LETTERS or ring.has_mark:
         return False
     whole = way + ring
     for plan in (first, second):
@@ -132,10 +133,12 @@ class Climb:
 
     def __init__(self, walk, start, sign):
         self.edges = [[(behind, sign * rise_by(moves)) for moves, behind in row] for row in walk.rows]
-        self.tops = [None] * len(walk.rows)
-        self.tops[0] = sign * start
+        self._origins = list(walk.origins)
+        # At first the leads of the first signatures.
+        self.tops = [sign * start]
+        for number, rank in self._origins[1:]:
+            self.tops.append(self.tops[number] + self.edges[number][rank][1])
         self.ring = None
-        self._origins = [None] * len(walk.rows)
         for members in parts_of_walk(walk):
             if self.ring is None:
                 self.settle(members)
@@ -162,13 +165,10 @@ class Climb:
 
     def raise_behind(self, number):
         """Takes over what is greater by way of this joint state; whether something is."""
-        if self.tops[number] is None:
-            return False
         is_raised = False
         for rank, (behind, rise) in enumerate(self.edges[number]):
-            top = self.tops[number] + rise
-            if self.tops[behind] is None or top > self.tops[behind]:
-                self.tops[behind] = top
+            if self.tops[number] + rise > self.tops[behind]:
+                self.tops[behind] = self.tops[number] + rise
                 self._origins[behind] = (number, rank)
                 is_raised = True
         return is_raised

@@ -76,10 +76,7 @@ def single_moves(first, second, signature):
 
 def exchanges(first, second, signature):
     """The least number of exchanges of two registers by which the register moves are done."""
-    moves = register_moves(first, second, signature)
-    rings = len(moves_in_sequence(moves)) - len(moves)
-    # A path has as many moves as registers less 1, a ring one more.
-    return len(moves) - rings
+    return least_exchanges(register_moves(first, second, signature))
 
 
 def moves_with_spare(first, second, signature):
@@ -123,6 +120,13 @@ def is_order_for(rows, value):
             return False
         moved[argument] = True
     return True
+
+
+def least_exchanges(moves):
+    """The least number of exchanges of two registers by which these moves are done."""
+    rings = len(moves_in_sequence(moves)) - len(moves)
+    # A path has as many moves as registers less 1, a ring one more.
+    return len(moves) - rings
 
 
 def moves_in_sequence(moves):

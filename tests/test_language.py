@@ -113,7 +113,6 @@ class LanguageTest(unittest.TestCase):
                 if isinstance(node, ast.arg):
                     self.assertNotIn(node.arg, known, (name, node.lineno))
 
-
     def test_no_name_of_the_file_is_used_otherwise(self):
         for name, tree in trees():
             classes = [node.name for node in tree.body if isinstance(node, ast.ClassDef)]
@@ -123,6 +122,13 @@ class LanguageTest(unittest.TestCase):
                     self.assertNotIn(node.arg, classes + imports, (name, node.lineno))
                 if isinstance(node, ast.Name) and isinstance(node.ctx, ast.Store):
                     self.assertNotIn(node.id, classes + imports, (name, node.lineno))
+
+    def test_all_imports_are_used(self):
+        for name, tree in trees():
+            used = {node.id for node in ast.walk(tree) if isinstance(node, ast.Name)}
+            for node in tree.body:
+                if isinstance(node, ast.ImportFrom):
+                    self.assertEqual([alias.name for alias in node.names if alias.name not in used], [], name)
 
     def test_stars_in_calls(self):
         properties = [method.name for _, tree in trees() for node in ast.walk(tree) if isinstance(node, ast.ClassDef)

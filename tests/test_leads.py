@@ -367,6 +367,8 @@ class RisingTest(RaisingTest):
         first, second = Convention(BOOK, slot=4), Convention(BOOK)
         way, ring = signature_of("a"), signature_of("aaaa")
         self.assertIs(is_rising(first, second, (way, ring * 249)), True)
+        self.assertIs(is_rising(first, second, (ring, ring * 249)), True)
+        self.assertIs(is_rising(first, second, (ring + way, ring * 249)), False)
         self.assertIs(is_rising(first, second, (way + ring * 248, ring)), True)
         self.assertIs(is_rising(first, second, (way + "..." + ring * 248, ring)), True)
         self.assertIs(is_rising(first, second, (way + ring * 249, ring)), False)

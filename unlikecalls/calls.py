@@ -8,7 +8,7 @@ from unlikecalls.basics import is_list
 from unlikecalls.conventions import check_convention
 from unlikecalls.errors import InvalidValues
 from unlikecalls.fills import SIGN
-from unlikecalls.frames import bytes_of_number, check_bytes, check_frame, made_frame, number_of_bytes
+from unlikecalls.frames import check_bytes, check_frame, made_frame, number_of_bytes
 from unlikecalls.places import GROUPS
 from unlikecalls.signatures import check_signature
 

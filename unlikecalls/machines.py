@@ -51,7 +51,6 @@ class Placing:
     """Where an argument is put, with slots counted from the offset ahead of it."""
 
     def __init__(self, places, accesses, growth, standing):
-        self.places = places
         self.codes = [place.code() for place in places]
         # What reads or writes the places, if the pointer is the offset ahead.
         self.accesses = accesses

@@ -29,7 +29,8 @@ def find_order(first, second, signature):
     order = [argument for argument, many in enumerate(left) if many == 0]
     at = 0
     while at < len(order):
-        for argument in waiting[order[at]]:
+        freed = waiting[order[at]]
+        for argument in freed:
             left[argument] -= 1
             if left[argument] == 0:
                 order.append(argument)

@@ -142,7 +142,8 @@ class Tails:
         queue = [number for number, flaw in enumerate(self._flaws) if flaw is not None]
         at = 0
         while at < len(queue):
-            for number in sources[queue[at]]:
+            leading = sources[queue[at]]
+            for number in leading:
                 if not is_bad[number]:
                     is_bad[number] = True
                     queue.append(number)
@@ -155,9 +156,10 @@ class Tails:
         queue = [number]
         at = 0
         while self._flaws[queue[at]] is None:
-            for rank, (_, behind) in enumerate(self._walk.rows[queue[at]]):
+            source = queue[at]
+            for rank, (_, behind) in enumerate(self._walk.rows[source]):
                 if behind not in origins:
-                    origins[behind] = (queue[at], rank)
+                    origins[behind] = (source, rank)
                     queue.append(behind)
             at += 1
         alphabet = self._walk.alphabet

@@ -242,7 +242,8 @@ class EntryWalk:
     def in_sequence(self):
         """The numbers of all entries, sorted by the entries."""
         numbers = {key_of(one): number for number, one in enumerate(self.reached)}
-        return [numbers[key] for key in sorted([int(key) for key in numbers])]
+        in_order = sorted([int(key) for key in numbers])
+        return [numbers[key] for key in in_order]
 
     def entries_in_sequence(self):
         """The entries, sorted, in a new list."""

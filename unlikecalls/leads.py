@@ -206,7 +206,8 @@ def parts_of_walk(walk):
         code, other_code = key // CODES, key % CODES
         taken = code // OFFSET_MODULUS * CODES + other_code // OFFSET_MODULUS
         parts.setdefault(taken, []).append(number)
-    return [parts[taken] for taken in sorted([int(taken) for taken in parts])]
+    in_order = sorted([int(one) for one in parts])
+    return [parts[one] for one in in_order]
 
 
 def climb_of(first, second, sign):

@@ -67,7 +67,8 @@ def register_moves(first, second, signature):
         for piece, other_piece in zip(layout.pieces(argument), other.pieces(argument)):
             if isinstance(piece, Register) and isinstance(other_piece, Register) and piece != other_piece:
                 found[f"{piece.group} {piece.number}"] = (piece, other_piece)
-    return [found[key] for key in sorted([str(key) for key in found])]
+    in_order = sorted([str(key) for key in found])
+    return [found[key] for key in in_order]
 
 
 def single_moves(first, second, signature):

@@ -40,7 +40,8 @@ class JointWalk:
     def states_in_sequence(self):
         """All joint states, sorted, in a new list."""
         if "sorted" not in self.notes:
-            self.notes["sorted"] = [self.joint_state(key) for key in sorted([int(key) for key in self.reached])]
+            in_order = sorted([int(key) for key in self.reached])
+            self.notes["sorted"] = [self.joint_state(key) for key in in_order]
         return list(self.notes["sorted"])
 
     def numbers_of_states(self):
